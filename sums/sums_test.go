@@ -76,8 +76,13 @@ func turned(s string, at int, bits uint32) string {
 // mustTurn asks whether a text has another sum with bits turned from a byte on.
 func mustTurn(t *testing.T, s string, at int, bits uint32) {
 	t.Helper()
-	if sums.Sum(turned(s, at, bits)) == sums.Sum(s) {
+	other := turned(s, at, bits)
+	got := sums.Sum(other)
+	if got == sums.Sum(s) {
 		t.Errorf("%d bytes, %08x turned from byte %d on: the same sum", len(s), bits, at)
+	}
+	if want := byBits(0, other); got != want {
+		t.Errorf("%d bytes, %08x turned from byte %d on: %x, want %x", len(s), bits, at, got, want)
 	}
 }
 
@@ -223,7 +228,7 @@ func TestTheSameAgain(t *testing.T) {
 func TestMoreOfASumIsTheSumOfBoth(t *testing.T) {
 	for _, n := range []int{0, 1, 2, 3, 4, 5, 9, 28, 31, 32, 33, 112, 128, 300} {
 		for _, s := range texts(n) {
-			want := sums.Sum(s)
+			want := byBits(0, s)
 			for cut := range n + 1 {
 				if got := sums.More(sums.Sum(s[:cut]), s[cut:]); got != want {
 					t.Errorf("%d bytes, cut at %d: %x, want %x", n, cut, got, want)
@@ -235,7 +240,7 @@ func TestMoreOfASumIsTheSumOfBoth(t *testing.T) {
 
 func TestMoreOfManyPieces(t *testing.T) {
 	s := jumble(1000)
-	want := sums.Sum(s)
+	want := byBits(0, s)
 	for _, step := range []int{1, 2, 3, 4, 7, 28, 128, 999, 1000} {
 		sum := sums.Sum("")
 		for at := 0; at < len(s); at += step {
@@ -250,7 +255,7 @@ func TestMoreOfManyPieces(t *testing.T) {
 func TestMoreOfMoreFromAnySum(t *testing.T) {
 	s := jumble(40)
 	for _, sum := range starts {
-		want := sums.More(sum, s)
+		want := byBits(sum, s)
 		for cut := range len(s) + 1 {
 			if got := sums.More(sums.More(sum, s[:cut]), s[cut:]); got != want {
 				t.Errorf("from %x, cut at %d: %x, want %x", sum, cut, got, want)
@@ -307,8 +312,9 @@ func TestBitsTurnedInShortTexts(t *testing.T) {
 		s := jumble(n)
 		for bits := uint32(1); bits < 1<<(8*min(n, 2)); bits++ {
 			other := turned(s+"\x00\x00\x00", 0, bits)[:n]
-			if sums.Sum(other) == sums.Sum(s) {
-				t.Errorf("%d bytes, %x turned: the same sum", n, bits)
+			got := sums.Sum(other)
+			if got == sums.Sum(s) || got != byBits(0, other) {
+				t.Errorf("%d bytes, %x turned: %x", n, bits, got)
 			}
 		}
 	}
